@@ -1,0 +1,1 @@
+"""Eachworkread: works that are still read often enough when readers drop out."""

@@ -1,0 +1,107 @@
+"""What several tests use: odd values, values with one part altered, and drawn books.
+
+Everything here is plain counting that takes nothing from the package but Book, so that it can stand against it.
+"""
+
+from itertools import combinations, product
+from random import Random
+
+from eachworkread.books import Book
+from eachworkread.errors import BadBook
+
+
+def nested(kind, depth):
+    """Return lists, tuples or dicts that are nested so deep."""
+    value = 0
+    for _ in range(depth):
+        if kind is dict:
+            value = {0: value}
+        else:
+            value = kind([value])
+    return value
+
+
+def odd_values():
+    """Return values of many kinds, made anew in each call."""
+    plain = [None, True, False, 0, -1, 7, 10 ** 30, -10 ** 30, "", "0", "two words", b"0"]
+    flat = [(), [], {}, (0,), [0], {0: 0}, {(0, 1): (0,)}, (True,), (1, 0), (0, 0), (0, ()), [0, ()], (None, None)]
+    deep = [nested(kind, depth) for kind in (list, tuple, dict) for depth in (2, 50)]
+    returned = [Book([0], []), [Book([1], [(1, (0,))])], (Book([0], []),), BadBook(0), [(0, 1), (), (2,)]]
+    return plain + flat + deep + returned
+
+
+def few_odd_values():
+    return [None, True, False, 0, -1, 7, "0", (), [], {}, (0,), Book([0], [])]
+
+
+def altered_number(value):
+    return [value + 1, value - 1, value + 7, -value, str(value), [value], (value,), bool(value)]
+
+
+def altered_parts(value):
+    """Return what a list or tuple becomes when one of its parts is left out, put in or altered."""
+    kind, parts = type(value), list(value)
+    found = [tuple(parts) if kind is list else parts, kind(reversed(parts)), kind(parts * 2)]
+    found += [dict(enumerate(parts)), kind([value]), kind(parts * 1000)]
+    for k in range(len(parts)):
+        found.append(kind(parts[:k] + parts[k + 1:]))
+        found.append(kind(parts[:k] + [parts[k]] + parts[k:]))
+        found += [kind(parts[:k] + [part] + parts[k + 1:]) for part in altered(parts[k])]
+    for k in range(len(parts) + 1):
+        found += [kind(parts[:k] + [odd] + parts[k:]) for odd in few_odd_values()]
+    return found
+
+
+def altered(value):
+    """Return a list of the value with one part exchanged, left out, put in, or made greater or less."""
+    if type(value) is int:
+        return odd_values() + altered_number(value)
+    if type(value) in (list, tuple):
+        return odd_values() + altered_parts(value)
+    return odd_values()
+
+
+def subsets(numbers):
+    """Return all ascending tuples of different ones of the numbers."""
+    return [some for size in range(len(numbers) + 1) for some in combinations(numbers, size)]
+
+
+def sets_of_works(book):
+    return subsets(range(len(book)))[1:]
+
+
+def possible_rows(book):
+    """Return all rows of the book."""
+    choices = [[row for row in subsets(may) if len(row) <= limit] for limit, may in book.readers()]
+    return [list(rows) for rows in product(*choices)]
+
+
+def drawn_subset(random, numbers):
+    return tuple(number for number in numbers if random.random() < 0.6)
+
+
+def drawn_book(random, works, readers):
+    demands = [random.choice([0, 1, 1, 2, 2, 3]) for _ in range(works)]
+    return Book(demands, [(random.randrange(5), drawn_subset(random, range(works))) for _ in range(readers)])
+
+
+def drawn_rows(random, book):
+    rows = []
+    for limit, may in book.readers():
+        many = random.randint(0, min(limit, len(may)))
+        rows.append(tuple(sorted(random.sample(may, many))))
+    return rows
+
+
+def drawn_absent(random, book):
+    return tuple(reader for reader in range(len(book.readers())) if random.random() < 0.3)
+
+
+def drawn_cases(seed, many, most):
+    """Return many tuples (book, rows, absent) with at most so many works and readers, the same for the same seed."""
+    random = Random(seed)
+    cases = []
+    for _ in range(many):
+        book = drawn_book(random, random.randint(1, most), random.randint(0, most))
+        cases.append((book, drawn_rows(random, book), drawn_absent(random, book)))
+    return cases
