@@ -1,4 +1,4 @@
-"""Questions about single values, which may be of any kind."""
+"""Questions about single values, which may be of any kind, and the sets of works that there are."""
 
 GREATEST_AMOUNT = 6
 
@@ -23,3 +23,16 @@ def is_ascending(value, many):
             return False
         last = item
     return True
+
+
+def is_set_of_works(value, many):
+    """Return True if the value is a set of works of a book with so many works."""
+    return is_ascending(value, many) and len(value) > 0
+
+
+def sets_of_works(many):
+    """Return a list of all sets of works of a book with so many works."""
+    found = [()]
+    for work in range(many):
+        found = found + [works + (work,) for works in found]
+    return found[1:]

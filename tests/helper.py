@@ -61,6 +61,42 @@ def altered(value):
     return odd_values()
 
 
+def altered_part(random, value):
+    """Return a single value altered: another number, another kind, or an odd value."""
+    found = odd_values() + [None, True, False] + list(range(7)) * 3 + [str(value), [value], (value,), {0: value}]
+    if type(value) is int:
+        found += [value + 1, value - 1, -value, bool(value)] * 5
+    if type(value) in (list, tuple):
+        found += [list(value), tuple(value), list(value), tuple(value), dict(enumerate(value))] * 5
+    return random.choice(found)
+
+
+def altered_at_random(random, value):
+    """Return the value with one drawn thing, at any depth, exchanged, left out, put in, or made greater or less."""
+    if type(value) not in (list, tuple) or not value or random.random() < 0.15:
+        return altered_part(random, value)
+    kind, parts = type(value), list(value)
+    at, other = random.randrange(len(parts)), random.randrange(len(parts))
+    way = random.randrange(8)
+    if way == 0:
+        del parts[at]
+    elif way == 1:
+        parts.insert(at, altered_part(random, parts[other]))
+    elif way == 2:
+        parts[at], parts[other] = parts[other], parts[at]
+    elif way == 3:
+        parts.insert(at, parts[other])
+    else:
+        parts[at] = altered_at_random(random, parts[at])
+    return kind(parts)
+
+
+def altered_once_and_twice(random, value, many):
+    """Return many drawn values that differ from the value by one thing, and as many that differ by two."""
+    once = [altered_at_random(random, value) for _ in range(many)]
+    return once + [altered_at_random(random, one) for one in once]
+
+
 def subsets(numbers):
     """Return all ascending tuples of different ones of the numbers."""
     return [some for size in range(len(numbers) + 1) for some in combinations(numbers, size)]
@@ -104,4 +140,31 @@ def drawn_cases(seed, many, most):
     for _ in range(many):
         book = drawn_book(random, random.randint(1, most), random.randint(0, most))
         cases.append((book, drawn_rows(random, book), drawn_absent(random, book)))
+    return cases
+
+
+def drawn_row_of_readers(random, works, many):
+    """Return a tuple (book, rows, absent) in which readers at their limits can hand works on, one to the next one."""
+    order = random.sample(range(works), works)
+    drawn = []
+    for k in range(many):
+        reads = {order[(k + 1) % works]} | {work for work in order if random.random() < 0.15}
+        may = reads | {order[k % works]} | {work for work in order if random.random() < 0.1}
+        limit = len(reads) if random.random() < 0.8 else len(reads) + 1
+        drawn.append(((limit, tuple(sorted(may))), tuple(sorted(reads))))
+    random.shuffle(drawn)
+    absent = random.choice([(), (), (many - 1,)])
+    return Book([1] * works, [reader for reader, _ in drawn]), [row for _, row in drawn], absent
+
+
+def drawn_steps(seed, many, most):
+    """Return many tuples (book, kept, rows, absent): the rows contain the kept ones, for the absent readers."""
+    random = Random(seed)
+    in_a_row = [drawn_row_of_readers(random, random.randint(2, most), random.randint(2, most)) for _ in range(many)]
+    cases = []
+    for book, drawn, absent in drawn_cases(seed, many // 2, most) + in_a_row[many // 2:]:
+        part = random.choice([0, 0.1, 0.5, 1])
+        rows = [() if reader in absent else row for reader, row in enumerate(drawn)]
+        kept = [tuple(work for work in row if random.random() < part) for row in drawn]
+        cases.append((book, kept, rows, absent))
     return cases

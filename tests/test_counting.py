@@ -4,39 +4,8 @@ import unittest
 
 from eachworkread.books import Book
 from eachworkread.rows import count, extends, is_enough, is_good, is_rows, is_short
-from tests.helper import drawn_cases, possible_rows, sets_of_works, subsets
-
-
-def plain_count(book, rows, reader, works):
-    """Point 7 in another way: the most works of the set beside just those outside of it that it reads now."""
-    limit, may = book.readers()[reader]
-    outside = set(rows[reader]) - set(works)
-    found = [row for row in subsets(may) if len(row) <= limit and set(row) - set(works) == outside]
-    return max(len(set(row) & set(works)) for row in found)
-
-
-def plain_is_short(book, rows, absent, works):
-    told = 0
-    for reader in range(len(rows)):
-        if reader not in absent:
-            told += plain_count(book, rows, reader, works)
-    return told < sum(book.demands()[work] for work in works)
-
-
-def pairs(rows, absent):
-    return {(reader, work) for reader, row in enumerate(rows) for work in row if reader not in absent}
-
-
-def plain_extends(book, rows, absent, value):
-    """Point 6 for a value that is rows of the book, in pairs of a reader and a work."""
-    kept, new, absent_too = pairs(rows, absent), pairs(value, absent), pairs(value, ())
-    if absent_too != new or not kept <= new:
-        return False
-    for work, demand in enumerate(book.demands()):
-        before = sum(1 for pair in kept if pair[1] == work)
-        if sum(1 for pair in new if pair[1] == work) != max(demand, before):
-            return False
-    return True
+from tests.helper import drawn_cases, possible_rows, sets_of_works
+from tests.plain import plain_count, plain_extends, plain_is_short
 
 
 class CountingTest(unittest.TestCase):

@@ -8,6 +8,9 @@ FOLDER = Path(__file__).resolve().parent.parent / "eachworkread"
 
 FUNCTIONS = {
     "rows.py": ["is_rows", "is_good", "is_enough", "count", "is_short", "extends"],
+    "steps.py": ["step", "is_chain", "is_closed"],
+    "extending.py": ["extension"],
+    "droppings.py": ["borne", "reason", "is_reason"],
 }
 CLASSES = {
     "errors.py": {
