@@ -168,3 +168,62 @@ def drawn_steps(seed, many, most):
         kept = [tuple(work for work in row if random.random() < part) for row in drawn]
         cases.append((book, kept, rows, absent))
     return cases
+
+
+def drawn_reader(random, works):
+    """Return a reader that may read most works, and some works that it can read."""
+    may = tuple(work for work in range(works) if random.random() < 0.75)
+    reads = tuple(work for work in may if random.random() < 0.45)
+    return (min(len(reads) + random.choice([0, 0, 0, 1, 2]), 6), may), reads
+
+
+def drawn_good_book(random, works, readers):
+    """Return a tuple (book, absent) with good rows: each work is demanded as often as some drawn rows read it."""
+    many = random.choice([0, 0, 0, 1, 2]) if readers > 2 else 0
+    absent = tuple(sorted(random.sample(range(readers), many)))
+    drawn = [drawn_reader(random, works) for _ in range(readers)]
+    told = [work for reader, (_, reads) in enumerate(drawn) if reader not in absent for work in reads]
+    return Book([told.count(work) for work in range(works)], [reader for reader, _ in drawn]), absent
+
+
+def drawn_good_cases(seed, many, works, readers):
+    """Return many tuples (book, rows, absent) with good rows, with at most so many works and readers."""
+    random = Random(seed)
+    cases = []
+    for _ in range(many):
+        many_works, many_readers = random.randint(1, works), random.randint(0, readers)
+        if random.random() < 0.7:
+            many_works, many_readers = works - many_works // works, readers
+        book, absent = drawn_good_book(random, many_works, many_readers)
+        cases.append((book, drawn_rows(random, book), absent))
+    return cases
+
+
+def drawn_mixed_cases(seed, many, works, readers):
+    """Return many tuples (book, rows, absent): a part with good rows, a part where a demand is one more or less."""
+    random = Random(seed)
+    cases = []
+    for k, (book, rows, absent) in enumerate(drawn_good_cases(seed, many, works, readers)):
+        if k % 3 == 0:
+            demands = book.demands()
+            work = random.randrange(works) % len(book)
+            demands[work] = min(max(demands[work] + random.choice([1, 1, -1]), 0), 6)
+            book = Book(demands, book.readers())
+        cases.append((book, rows, absent))
+    return cases
+
+
+def drawn_prices(random, book, most):
+    return [random.randint(-most, most) for _ in range(len(book))]
+
+
+def told_of(*values):
+    """Return a text that tells everything in the values, the lists of the books among them too, with their kinds."""
+    return repr([[one.demands(), one.readers()] if type(one) is Book else one for one in values])
+
+
+def lists_in(value):
+    """Return all lists that stand in the value, at any depth."""
+    if type(value) not in (list, tuple):
+        return []
+    return [value] * (type(value) is list) + [found for part in value for found in lists_in(part)]

@@ -100,3 +100,77 @@ def plain_borne(book, rows, absent, can_extend):
             break
         borne = number
     return borne
+
+
+def plain_difference(book, rows, absent, works):
+    """Return the difference of the demands of the set together and the plain counts of the present readers for it."""
+    wanted = sum(book.demands()[work] for work in works)
+    return wanted - sum(plain_count(book, rows, reader, works) for reader in present(book, absent))
+
+
+def plain_differences(book, rows, absent):
+    return {works: plain_difference(book, rows, absent, works) for works in sets_of_works(book)}
+
+
+def plain_nothing(book):
+    return [()] * len(book.readers())
+
+
+def plain_short_sets(book, absent):
+    """Return all sets that are short for rows in which nobody reads."""
+    return [works for works, number in plain_differences(book, plain_nothing(book), absent).items() if number > 0]
+
+
+def plain_good_rows(book, absent):
+    """Return all good rows for the absent readers: points 5 and 12, reader by reader."""
+    found = [((), tuple(book.demands()))]
+    for reader, (limit, may) in enumerate(book.readers()):
+        choices = [()] if reader in absent else [some for some in subsets(may) if len(some) <= limit]
+        found = [
+            (rows + (some,), tuple(many - (work in some) for work, many in enumerate(left)))
+            for rows, left in found for some in choices if all(left[work] > 0 for work in some)
+        ]
+    return [list(rows) for rows, left in found if not any(left)]
+
+
+def plain_is_good(book, absent, value):
+    """Point 12 for a value that is rows of the book, in pairs of a reader and a work."""
+    told = [work for _, work in pairs(value, absent)]
+    times = [told.count(work) for work in range(len(book))]
+    return pairs(value, absent) == pairs(value, ()) and times == book.demands()
+
+
+def plain_least_tight(book, absent, work):
+    """Return what is in all tight sets with the work; None if there is none."""
+    differences = plain_differences(book, plain_nothing(book), absent)
+    tight = [set(works) for works, number in differences.items() if number == 0 and work in works]
+    if not tight:
+        return None
+    return tuple(sorted(set.intersection(*tight)))
+
+
+def plain_kept(rows, value, absent):
+    """Return how many readings of present readers in the rows are kept in the value."""
+    return len(pairs(rows, absent) & pairs(value, absent))
+
+
+def plain_bound(book, rows, absent, prices):
+    """Point 14 for a list of prices, over all sets of works that a reader could choose."""
+    found = sum(demand * price for demand, price in zip(book.demands(), prices, strict=True))
+    for reader in present(book, absent):
+        limit, may = book.readers()[reader]
+        gains = {work: (work in rows[reader]) - prices[work] for work in may}
+        found += max(sum(gains[work] for work in some) for some in subsets(may) if len(some) <= limit)
+    return found
+
+
+def plain_greatest_borne(book, rows, absent):
+    """Return the greatest number d so that each set is counted for enough without the d that count most for it."""
+    here = present(book, absent)
+    greatest = len(here)
+    for works in sets_of_works(book):
+        counts = sorted(plain_count(book, rows, reader, works) for reader in here)
+        wanted = sum(book.demands()[work] for work in works)
+        enough = [d for d in range(len(here) + 1) if sum(counts[:len(here) - d]) >= wanted]
+        greatest = min([greatest] + [len(enough) - 1])
+    return greatest

@@ -7,7 +7,7 @@ from eachworkread.books import Book
 from eachworkread.droppings import borne, is_reason, reason
 from eachworkread.extending import extension
 from tests.helper import altered_once_and_twice, drawn_cases, few_odd_values, possible_rows, sets_of_works, subsets
-from tests.plain import plain_borne, plain_count, plain_extends, plain_reasons, present
+from tests.plain import plain_borne, plain_extends, plain_greatest_borne, plain_reasons, present
 
 
 def drawn_books(seed, many, most):
@@ -19,18 +19,6 @@ def drawn_books(seed, many, most):
             rows = [()] * len(rows)
         cases.append((book, rows, absent))
     return cases
-
-
-def told_by_the_main_fact(book, rows, absent):
-    """Return the greatest number d so that each set is counted for enough without the d that count most for it."""
-    here = present(book, absent)
-    greatest = len(here)
-    for works in sets_of_works(book):
-        counts = sorted(plain_count(book, rows, reader, works) for reader in here)
-        wanted = sum(book.demands()[work] for work in works)
-        enough = [d for d in range(len(here) + 1) if sum(counts[:len(here) - d]) >= wanted]
-        greatest = min([greatest] + [len(enough) - 1])
-    return greatest
 
 
 class BorneTest(unittest.TestCase):
@@ -60,7 +48,7 @@ class BorneTest(unittest.TestCase):
 
     def test_against_the_main_fact(self):
         for book, rows, absent in drawn_books(33, 600, 6):
-            expected = told_by_the_main_fact(book, rows, absent)
+            expected = plain_greatest_borne(book, rows, absent)
             self.assertEqual(borne(book, rows, absent), expected, (book.demands(), book.readers(), rows, absent))
 
 

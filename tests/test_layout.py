@@ -1,16 +1,31 @@
 """The package's files: what is where, and the rules of size that a look at the text can keep."""
 
 import ast
+import builtins
 import unittest
 from pathlib import Path
 
 FOLDER = Path(__file__).resolve().parent.parent / "eachworkread"
+
+# The builtins that the package has a use for, and kinds of statements and values that it does without.
+BUILTINS = {
+    "len", "range", "enumerate", "zip", "min", "max", "sum", "sorted", "list", "tuple", "isinstance", "any", "all",
+    "int", "bool", "ValueError",
+}
+NEVER = (
+    ast.Try, ast.With, ast.Global, ast.Nonlocal, ast.Delete, ast.Assert, ast.Match, ast.Yield, ast.YieldFrom, ast.Await,
+    ast.AsyncFunctionDef, ast.NamedExpr, ast.Set, ast.SetComp, ast.GeneratorExp, ast.Starred, ast.JoinedStr,
+    ast.AnnAssign, ast.Div, ast.Mod, ast.Pow,
+)
 
 FUNCTIONS = {
     "rows.py": ["is_rows", "is_good", "is_enough", "count", "is_short", "extends"],
     "steps.py": ["step", "is_chain", "is_closed"],
     "extending.py": ["extension"],
     "droppings.py": ["borne", "reason", "is_reason"],
+    "further.py": ["further_limits"],
+    "goodrows.py": ["good_rows", "least_tight", "pair", "readings", "good_with"],
+    "relaid.py": ["relaid", "bound"],
 }
 CLASSES = {
     "errors.py": {
@@ -28,6 +43,12 @@ CLASSES = {
         "NothingDone": ["__init__"],
     },
     "books.py": {"Book": ["__init__", "demands", "readers", "__len__", "__eq__"]},
+    "house.py": {
+        "House": [
+            "__init__", "book_now", "rows_now", "absent_now", "__len__", "drop_out", "come_back", "extend", "lay_anew",
+            "set_demand", "set_limit", "add_work", "undo", "borne_now", "why_not", "kept", "fork",
+        ],
+    },
 }
 
 
@@ -37,6 +58,10 @@ def texts():
 
 def defined(body, kind):
     return {part.name: part for part in body if isinstance(part, kind)}
+
+
+def imported_files(tree):
+    return [part.module.split(".")[1] + ".py" for part in tree.body if isinstance(part, ast.ImportFrom)]
 
 
 class LayoutTest(unittest.TestCase):
@@ -74,3 +99,56 @@ class LayoutTest(unittest.TestCase):
                 self.assertNotIsInstance(part, ast.Import, name)
                 if isinstance(part, ast.ImportFrom):
                     self.assertTrue(part.module.startswith("eachworkread."), name)
+
+    def test_imports_name_the_files_that_define_the_names(self):
+        trees = {name: ast.parse(text) for name, text in texts().items()}
+        for name, tree in trees.items():
+            for part in tree.body:
+                if isinstance(part, ast.ImportFrom):
+                    home = trees[part.module.split(".")[1] + ".py"]
+                    names = list(defined(home.body, (ast.FunctionDef, ast.ClassDef)))
+                    names += [one.targets[0].id for one in home.body if isinstance(one, ast.Assign)]
+                    self.assertEqual([one.name for one in part.names if one.name not in names], [], name)
+                    self.assertEqual([one.asname for one in part.names if one.asname], [], name)
+
+    def test_no_two_files_import_from_each_other(self):
+        imports = {name: imported_files(ast.parse(text)) for name, text in texts().items()}
+        for name in imports:
+            reached = list(imports[name])
+            for other in reached:
+                reached += [one for one in imports[other] if one not in reached]
+            self.assertNotIn(name, reached)
+
+    def test_names_are_bound_once_and_are_no_builtins(self):
+        for name, text in texts().items():
+            tree = ast.parse(text)
+            imported = [one.name for part in tree.body if isinstance(part, ast.ImportFrom) for one in part.names]
+            classes = list(defined(tree.body, ast.ClassDef))
+            functions = list(defined(tree.body, ast.FunctionDef))
+            above = imported + classes + functions
+            self.assertEqual(len(above), len(set(above)), name)
+            local = {part.arg for part in ast.walk(tree) if isinstance(part, ast.arg)}
+            local |= {part.id for part in ast.walk(tree) if isinstance(part, ast.Name) and type(part.ctx) is ast.Store}
+            self.assertEqual(local & set(above), set(), name)
+            self.assertEqual(local & set(dir(builtins)), set(), name)
+
+    def test_only_some_builtins_and_methods_of_values_are_used(self):
+        for name, text in texts().items():
+            tree = ast.parse(text)
+            bound = {part.arg for part in ast.walk(tree) if isinstance(part, ast.arg)}
+            bound |= {part.id for part in ast.walk(tree) if isinstance(part, ast.Name) and type(part.ctx) is ast.Store}
+            read = {part.id for part in ast.walk(tree) if isinstance(part, ast.Name)} - bound
+            self.assertLessEqual(read & set(dir(builtins)), BUILTINS, name)
+            for part in ast.walk(tree):
+                self.assertNotIsInstance(part, NEVER, name)
+
+    def test_no_loop_changes_what_it_goes_over(self):
+        for name, text in texts().items():
+            for part in ast.walk(ast.parse(text)):
+                if isinstance(part, ast.For):
+                    over = {one.id for one in ast.walk(part.iter) if isinstance(one, ast.Name)}
+                    calls = [one for one in ast.walk(part) if isinstance(one, ast.Call)]
+                    methods = [one.func for one in calls if isinstance(one.func, ast.Attribute)]
+                    changed = {one.value.id for one in methods if isinstance(one.value, ast.Name)
+                               and one.attr in ("append", "pop", "insert", "remove", "clear", "extend")}
+                    self.assertEqual(over & changed, set(), (name, part.lineno))
